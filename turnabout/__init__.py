@@ -1,0 +1,1 @@
+"""Recruits who turn about: see turnabout.recruits.answers."""
