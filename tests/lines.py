@@ -33,6 +33,26 @@ def later(s):
     return [4, s]
 
 
+def rests():
+    return [5]
+
+
+def turns():
+    return [6]
+
+
+def comes_round():
+    return [7]
+
+
+def before():
+    return [8]
+
+
+def longest(n):
+    return [9, n]
+
+
 def joined(calls):
     numbers = []
     for call in calls:

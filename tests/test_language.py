@@ -62,7 +62,7 @@ class Language(unittest.TestCase):
         for path, text, tree in self.each():
             self.assertRegex(text, r"^[ -~\n]*$")
             self.assertLessEqual(len(text.splitlines()), 400)
-            self.assertLessEqual(max(len(line) for line in text.splitlines()), 120)
+            self.assertLessEqual(max((len(line) for line in text.splitlines()), default=0), 120)
             for node in ast.walk(tree):
                 if isinstance(node, ast.FunctionDef):
                     self.assertLessEqual(node.end_lineno - node.lineno + 1, 40, node.name)
@@ -83,6 +83,8 @@ class Language(unittest.TestCase):
                     self.assertNotIn("%", str(node.value), node.lineno)
                 if isinstance(node, (ast.FunctionDef, ast.ClassDef)):
                     self.assertEqual(node.decorator_list, [], node.lineno)
+                if isinstance(node, ast.BinOp) and isinstance(node.op, ast.Pow):
+                    self.assertIsInstance(node.right, ast.Constant, node.lineno)
                 if isinstance(node, (ast.For, ast.While)):
                     self.assertEqual(node.orelse, [], node.lineno)
 
